@@ -1,0 +1,1 @@
+"""Graftlog: parsing expression grammars that are rewritten step by step."""
