@@ -32,6 +32,11 @@ LISTING = ("seq", "alt")
 WRAPPING = ("star", "opt", "not", "and", "mark")
 
 
+def is_index(thing):
+    """Tell whether a thing of any kind is an integer that is not negative."""
+    return isinstance(thing, int) and not isinstance(thing, bool) and thing >= 0
+
+
 def is_name(thing):
     """Tell whether a thing of any kind is a name."""
     if not isinstance(thing, str):
@@ -112,6 +117,15 @@ def parts_of(expression):
     if expression[0] in WRAPPING:
         return [expression[-1]]
     return []
+
+
+def with_parts(expression, parts):
+    """Return an expression with as many other expressions inside, from a list of them."""
+    if expression[0] in LISTING:
+        return expression[0], tuple(parts)
+    if expression[0] in WRAPPING:
+        return expression[:-1] + (parts[0],)
+    return expression
 
 
 def calls_of(expression):

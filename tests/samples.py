@@ -1,4 +1,10 @@
-"""Expressions, grammars and a plain matcher that several tests use."""
+"""Expressions, grammars, steps and a plain matcher that several tests use."""
+
+import itertools
+import random
+
+from graft.errors import Refused
+from graft.facts import check
 
 EPS = ("eps",)
 FAIL = ("fail",)
@@ -56,6 +62,15 @@ def nested(depth):
     for _ in range(depth - 1):
         e = ("opt", e)
     return e
+
+
+def ends(grammar):
+    """Whether check lets a grammar pass."""
+    try:
+        check(grammar)
+    except Refused:
+        return False
+    return True
 
 
 def plain_run(grammar, subject, at):
@@ -144,3 +159,78 @@ def small_grammars():
 
 def small_texts():
     return ["", "x", "y", "xy", "xx", "yx", "xyx", "xxy", "yyx", "xxxy", "zx"]
+
+
+def all_paths(e, path=()):
+    """The paths to all expressions in an expression, itself among them."""
+    yield path
+    if e[0] in ("seq", "alt"):
+        inside = e[1]
+    elif e[0] in ("star", "opt", "not", "and", "mark"):
+        inside = e[-1:]
+    else:
+        inside = ()
+    for k, part in enumerate(inside):
+        yield from all_paths(part, path + (k,))
+
+
+# The numbers of each graft: how many there are.
+MANY = {"seq-flat": 1, "alt-flat": 1, "lone": 0, "seq-eps": 1, "alt-fail": 1, "seq-fail": 1, "alt-cut": 1,
+        "alt-same": 2, "alt-swap": 1, "set-join": 1, "text-join": 1, "text-split": 1, "text-set": 0, "opt-alt": 0,
+        "look-look": 0, "opt-star": 0, "star-step": 0, "factor": 1, "spread": 0, "look-same": 1, "inline": 0}
+PASS = ("seq-flat", "alt-flat", "lone", "seq-eps", "alt-fail", "seq-fail", "alt-cut", "alt-same", "set-join",
+        "text-join", "look-look", "opt-star", "look-same", "drop-rule")
+
+
+def all_steps(grammar, names, most=17):
+    """All steps with these names at all places of a grammar, with numbers below a limit."""
+    for index, (_, e) in enumerate(grammar):
+        for name in names:
+            if name == "drop-rule":
+                yield name, index, (), ()
+                continue
+            for path in all_paths(e):
+                for numbers in itertools.product(range(most), repeat=MANY.get(name, 0)):
+                    yield name, index, path, numbers
+
+
+def any_expression(chance, depth):
+    """An expression that grafts often apply to, at most this deep; `chance` is a random.Random."""
+    if depth <= 1 or chance.random() < 0.15:
+        return chance.choice((EPS, EPS, FAIL, FAIL, ANY, chars("x"), chars("xy"), chars("yz"), text("x"), text("y"),
+                              text("xy"), text("zx"), call("a"), call("b"), call("b"), call("c"), seq(), alt()))
+    kind = chance.choice(("seq", "seq", "seq", "alt", "alt", "alt", "star", "opt", "opt", "not", "and", "mark"))
+    if kind == "mark":
+        return mark(chance.choice("mn"), any_expression(chance, depth - 1))
+    if kind not in ("seq", "alt"):
+        return kind, any_expression(chance, depth - 1)
+    parts = []
+    for _ in range(chance.randrange(4)):
+        e = any_expression(chance, depth - 1)
+        luck = chance.random()
+        if luck < 0.15 and depth > 2:
+            parts += [look(e), e]
+        elif luck < 0.3 and depth > 2:
+            parts += [seq(e, any_expression(chance, depth - 2)), seq(e)]
+        elif luck < 0.4:
+            parts += [e, e]
+        else:
+            parts.append(e)
+    return kind, tuple(parts)
+
+
+def any_grammars(seed, many, depth):
+    """As many grammars of three rules in which every match ends, the same ones for the same seed."""
+    chance = random.Random(seed)
+    found = 0
+    while found < many:
+        grammar = tuple((name, any_expression(chance, depth)) for name in "abc")
+        if ends(grammar):
+            found += 1
+            yield grammar
+
+
+def matches_of(grammar):
+    """What a grammar in which every match ends matches in many small texts at all places."""
+    return [plain_run(grammar, subject, at)[0] for subject in small_texts() + ["zy", "yz", "xyzx"]
+            for at in range(len(subject) + 1)]

@@ -6,7 +6,7 @@ from graft.errors import Invalid, Looping, Refused, Unknown
 from graft.facts import check, empty_rules, firsts, may_be_empty, never_fails
 from graft.machine import match
 from graft.terms import CHARS
-from samples import (ANY, EPS, FAIL, alt, call, chars, look, mark, nested, no, one, opt, seq, small_grammars,
+from samples import (ANY, EPS, FAIL, alt, call, chars, ends, look, mark, nested, no, one, opt, seq, small_grammars,
                      small_texts, star, text)
 
 
@@ -334,14 +334,6 @@ class NeverFailsTest(unittest.TestCase):
             if ends(grammar) and never_fails(grammar[0][1]):
                 for subject in small_texts():
                     self.assertIsNotNone(match(grammar, subject))
-
-
-def ends(grammar):
-    try:
-        check(grammar)
-    except Looping:
-        return False
-    return True
 
 
 if __name__ == "__main__":

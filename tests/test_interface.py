@@ -3,7 +3,7 @@
 import inspect
 import unittest
 
-from graft import errors, facts, machine, terms
+from graft import errors, facts, grafts, logs, machine, passes, terms, texts
 
 FUNCTIONS = (
     (terms, "is_grammar", "(thing)"),
@@ -18,6 +18,14 @@ FUNCTIONS = (
     (facts, "never_fails", "(expression)"),
     (machine, "match", "(grammar, text, at=0)"),
     (machine, "run", "(grammar, text, at)"),
+    (grafts, "apply_graft", "(name, grammar, expression, numbers)"),
+    (logs, "is_step", "(thing)"),
+    (logs, "expression_at", "(expression, path)"),
+    (logs, "stepped", "(grammar, step)"),
+    (logs, "replay", "(grammar, log)"),
+    (passes, "improved", "(grammar)"),
+    (texts, "parse", "(text)"),
+    (texts, "show", "(grammar)"),
 )
 CLASSES = ("Refused", "Malformed", "Invalid", "Unknown", "Looping", "BadStep")
 
